@@ -91,7 +91,7 @@ func ReadNumbers(data []byte) IntsResult {
 }
 
 func BitsOf(mask int64) IntsResult {
-	if mask < 0 || mask >= 1<<maskBits {
+	if !isWithin(mask, 0, 1<<maskBits-1) {
 		return IntsResult{Code: ErrRange}
 	}
 	var list []int64
@@ -103,8 +103,12 @@ func BitsOf(mask int64) IntsResult {
 	return IntsResult{List: list}
 }
 
+func isWithin(n int64, least int64, greatest int64) bool {
+	return least <= n && n <= greatest
+}
+
 func isShort(n int64) bool {
-	return leastShort <= n && n <= greatestShort
+	return isWithin(n, leastShort, greatestShort)
 }
 
 // isPacked needs no look at the numbers themselves: any two bytes are a short number, and of that one alone.

@@ -7,32 +7,10 @@ import (
 	"loop.example/g00631/impl"
 )
 
-// guarded lays list into a greater array, so that a write ahead of it, into it or into its spare room is seen.
-type guarded[T comparable] struct {
-	whole []T
-	was   []T
-	list  []T
-}
-
-func guard[T comparable](list []T, mark T) guarded[T] {
-	whole := []T{mark, mark}
-	whole = append(whole, list...)
-	whole = append(whole, mark, mark, mark)
-	return guarded[T]{whole: whole, was: slices.Clone(whole), list: whole[2 : 2+len(list)]}
-}
-
-func (g guarded[T]) check(t *testing.T, what string) {
+func wantCode(t *testing.T, what string, got int64, want int64) {
 	t.Helper()
-	if !slices.Equal(g.whole, g.was) {
-		t.Errorf("%s: the argument was changed", what)
-	}
-}
-
-// scribble overwrites list and its spare room.
-func scribble[T any](list []T, with T) {
-	list = list[:cap(list)]
-	for i := range list {
-		list[i] = with
+	if got != want {
+		t.Errorf("%s: got code %d, want %d", what, got, want)
 	}
 }
 
