@@ -27,6 +27,12 @@ func call2[A, B, R any](what string, f func(A, B) R, a A, b B) call {
 	return call{what, func() any { return f(x, y) }, func() any { return f(swapEmpty(x), swapEmpty(y)) }, []any{x, y}, l}
 }
 
+func call3[A, B, C, R any](what string, f func(A, B, C) R, a A, b B, c C) call {
+	l := &layout{}
+	x, y, z := layOut(l, a), layOut(l, b), layOut(l, c)
+	return call{what, func() any { return f(x, y, z) }, func() any { return f(swapEmpty(x), swapEmpty(y), swapEmpty(z)) }, []any{x, y, z}, l}
+}
+
 // checkCalls asks promise 1 of every call.
 func checkCalls(t *testing.T, calls []call) {
 	t.Helper()
