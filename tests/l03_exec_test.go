@@ -193,8 +193,8 @@ func checkExecTxn(t *testing.T, list []impl.Item, txn impl.Txn) {
 	wantCode(t, what, impl.ItemsFault(got.Items), impl.OK)
 }
 
-// All transactions of up to three acts out of some, of stores with no, some, one and no more room.
-func TestExecTxnOfManyTransactions(t *testing.T) {
+// overManyTxns tells all transactions of up to three acts out of some, of stores with no, some, one and no more room.
+func overManyTxns(tell func(list []impl.Item, txn impl.Txn)) {
 	var some []impl.Act
 	for _, key := range []int64{4, 5, 20} {
 		some = append(some, put(key, 0), put(key, 1000), add(key, 0), add(key, 500), add(key, -1000), remove(key), holds(key, 0), holds(key, 500))
@@ -202,15 +202,19 @@ func TestExecTxnOfManyTransactions(t *testing.T) {
 	high, low := withItem(evenItems(8), 1, item(4, 19500)), withItem(evenItems(7), 1, item(4, -19000))
 	for _, list := range [][]impl.Item{nil, {item(4, 500)}, {item(5, 0), item(20, 1)}, evenItems(7), high, low} {
 		for _, a := range some {
-			checkExecTxn(t, list, acts(a))
+			tell(list, acts(a))
 			for _, b := range some {
-				checkExecTxn(t, list, acts(a, b))
+				tell(list, acts(a, b))
 				for _, c := range some {
-					checkExecTxn(t, list, acts(a, b, c))
+					tell(list, acts(a, b, c))
 				}
 			}
 		}
 	}
+}
+
+func TestExecTxnOfManyTransactions(t *testing.T) {
+	overManyTxns(func(list []impl.Item, txn impl.Txn) { checkExecTxn(t, list, txn) })
 }
 
 func TestExecAllByHand(t *testing.T) {
