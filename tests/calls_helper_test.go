@@ -15,6 +15,10 @@ type call struct {
 	laid      *layout
 }
 
+func call0[R any](what string, f func() R) call {
+	return call{what, func() any { return f() }, func() any { return f() }, nil, &layout{}}
+}
+
 func call1[A, R any](what string, f func(A) R, a A) call {
 	l := &layout{}
 	x := layOut(l, a)
@@ -31,6 +35,15 @@ func call3[A, B, C, R any](what string, f func(A, B, C) R, a A, b B, c C) call {
 	l := &layout{}
 	x, y, z := layOut(l, a), layOut(l, b), layOut(l, c)
 	return call{what, func() any { return f(x, y, z) }, func() any { return f(swapEmpty(x), swapEmpty(y), swapEmpty(z)) }, []any{x, y, z}, l}
+}
+
+// call4 takes a list or struct and numbers alone: a number is neither laid out nor empty.
+func call4[A, R any](what string, f func(A, int64, int64, int64) R, a A, n, m, o int64) call {
+	return call1(what, func(x A) R { return f(x, n, m, o) }, a)
+}
+
+func call5[A, R any](what string, f func(A, int64, int64, int64, int64) R, a A, n, m, o, p int64) call {
+	return call1(what, func(x A) R { return f(x, n, m, o, p) }, a)
 }
 
 // checkCalls asks promise 1 of every call.
