@@ -159,25 +159,42 @@ func listsIn(v reflect.Value) []reflect.Value {
 // checkNewMemory: no list of the answer has memory, spare room counted, in common with another one or with an argument.
 func checkNewMemory(t *testing.T, what string, answer any, arguments []any) {
 	t.Helper()
-	lists := listsIn(reflect.ValueOf(answer))
+	lists := spansIn(answer)
+	var given []span
+	for _, argument := range arguments {
+		given = append(given, spansIn(argument)...)
+	}
 	for i, list := range lists {
 		for _, other := range lists[:i] {
 			if overlap(list, other) {
-				t.Errorf("%s: two lists of the answer share memory: %v, %v", what, list, other)
+				t.Errorf("%s: two lists of the answer share memory: %v, %v", what, list.list, other.list)
 			}
 		}
-		for _, argument := range arguments {
-			for _, other := range listsIn(reflect.ValueOf(argument)) {
-				if overlap(list, other) {
-					t.Errorf("%s: the answer shares memory with an argument: %v, %v", what, list, other)
-				}
+		for _, other := range given {
+			if overlap(list, other) {
+				t.Errorf("%s: the answer shares memory with an argument: %v, %v", what, list.list, other.list)
 			}
 		}
 	}
 }
 
-func overlap(a, b reflect.Value) bool {
-	aEnd := a.Pointer() + uintptr(a.Cap())*a.Type().Elem().Size()
-	bEnd := b.Pointer() + uintptr(b.Cap())*b.Type().Elem().Size()
-	return a.Cap() > 0 && b.Cap() > 0 && a.Pointer() < bEnd && b.Pointer() < aEnd
+// span is where a list lies, its spare room counted.
+type span struct {
+	list       reflect.Value
+	begin, end uintptr
+}
+
+// spansIn asks each list once where it lies: checkNewMemory holds every one against every other.
+func spansIn(v any) []span {
+	var spans []span
+	for _, list := range listsIn(reflect.ValueOf(v)) {
+		begin := list.Pointer()
+		spans = append(spans, span{list, begin, begin + uintptr(list.Cap())*list.Type().Elem().Size()})
+	}
+	return spans
+}
+
+// overlap: what has no room at all lies nowhere.
+func overlap(a, b span) bool {
+	return a.begin < a.end && b.begin < b.end && a.begin < b.end && b.begin < a.end
 }
